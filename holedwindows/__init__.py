@@ -1,0 +1,1 @@
+"""Places of a row told by a window with holes."""
