@@ -7,7 +7,7 @@ from holedwindows.errors import BadMask, BadNumber, BadRow, BadView
 from holedwindows.finding import find, near, steps_needed
 from tests.checking import assert_bad_number, assert_order, assert_raises
 from tests.values import (
-    HUGE, NO_INTEGERS, NO_LOOKS, NO_MASKS, NO_ROWS, masks, plain_views, strings)
+    HUGE, NO_INTEGERS, NO_LOOKS, NO_MASKS, NO_ROWS, SIGNS, masks, plain_views, strings)
 
 LONG = "abcd" * 15
 
@@ -172,6 +172,13 @@ class WrongValues(unittest.TestCase):
                 for row in ("abab", "", "ab"):
                     assert_raises(self, BadView, find, [row, "x.x", value])
                     assert_raises(self, BadView, near, [row, "x.x", value, 0])
+
+    def test_other_signs_in_a_look(self):
+        for sign in SIGNS:
+            if sign not in "abcd?":
+                for look in (sign + "a", "a" + sign, sign * 2):
+                    with self.subTest(look=look):
+                        assert_raises(self, BadView, find, ["abab", "x.x", look])
 
     def test_a_look_has_as_many_signs_as_are_seen(self):
         assert_raises(self, BadView, find, ["abab", "x.x", "a?b"])

@@ -5,7 +5,7 @@ import unittest
 from holedwindows.errors import BadMask, BadNumber
 from holedwindows.masks import seen, together
 from tests.checking import assert_bad_number, assert_order, assert_raises
-from tests.values import HUGE, NO_INTEGERS, NO_MASKS, masks
+from tests.values import HUGE, NO_INTEGERS, NO_MASKS, SIGNS, masks
 
 
 class Examples(unittest.TestCase):
@@ -38,6 +38,13 @@ class Seen(unittest.TestCase):
         for at, value in enumerate(NO_MASKS):
             with self.subTest(at=at):
                 assert_raises(self, BadMask, seen, [value])
+
+    def test_other_signs(self):
+        for sign in SIGNS:
+            if sign not in "x.":
+                for mask in (sign, "x" + sign + "x", sign + "x", "x" + sign):
+                    with self.subTest(mask=mask):
+                        assert_raises(self, BadMask, seen, [mask])
 
 
 class Together(unittest.TestCase):

@@ -8,7 +8,8 @@ from holedwindows.finding import near
 from holedwindows.views import alike, distance, groups, stands, tells, views
 from tests.checking import assert_bad_number, assert_order, assert_raises
 from tests.values import (
-    HUGE, NO_INTEGERS, NO_MASKS, NO_ROWS, masks, plain_pairs, plain_views, strings, unlike_letters)
+    HUGE, NO_INTEGERS, NO_MASKS, NO_ROWS, SIGNS, masks, plain_pairs, plain_views, strings,
+    unlike_letters)
 
 OF_ROW_AND_MASK = [views, tells, alike, groups, distance]
 LONG = "abcd" * 15
@@ -189,6 +190,13 @@ class WrongValues(unittest.TestCase):
                 for call in OF_ROW_AND_MASK:
                     assert_raises(self, BadRow, call, [value, "x.x"])
                 assert_raises(self, BadRow, stands, [value, "x.x", 0, 0])
+
+    def test_other_signs_in_a_row(self):
+        for sign in SIGNS:
+            if sign not in "abcd":
+                for row in (sign, "a" + sign + "b", sign + "ab", "ab" + sign):
+                    with self.subTest(row=row):
+                        assert_raises(self, BadRow, views, [row, "x"])
 
     def test_no_mask(self):
         for at, value in enumerate(NO_MASKS):

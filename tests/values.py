@@ -31,6 +31,9 @@ NO_INTEGERS = [
     [True], [[0], {"a": [1]}], ([1], 2),
 ]
 
+# Every ASCII sign, and some that look like letters or signs of the document.
+SIGNS = [chr(code) for code in range(128)] + list("\u0430\u0441\u0445\u00e4\uff41\u2024\ud800\U0001f7e8")
+
 
 def strings(signs, most):
     """Return all strings of these signs with at most so many of them."""
