@@ -1,11 +1,16 @@
 """Checks of arguments, which the modules of the package share."""
 
-from holedwindows.errors import BadMask, BadNumber, BadRow, BadView
+from holedwindows.errors import (
+    BadLetters, BadMask, BadNumber, BadRow, BadView, BadViews, TooGreat)
 
 LETTERS = "abcd"
 UNREAD = "?"
 WIDEST = 12
 LONGEST = 60
+MOST_LOOKS = 60
+# For so many letters: how wide a small mask is at most, and how many places it sees.
+SMALL_WIDTH = {1: 12, 2: 8, 3: 5, 4: 4}
+SMALL_SEEN = {1: 12, 2: 4, 3: 2, 4: 1}
 
 
 def made_of(value, signs):
@@ -27,14 +32,59 @@ def check_row(row):
         raise BadRow("not a row")
 
 
+def is_look(told, mask):
+    """Tell whether the value is a look through the mask."""
+    return made_of(told, LETTERS + UNREAD) and len(told) == mask.count("x")
+
+
 def check_look(told, mask):
     """Raise BadView for any value that is no look through the mask."""
-    if not made_of(told, LETTERS + UNREAD) or len(told) != mask.count("x"):
+    if not is_look(told, mask):
         raise BadView("not a look through the mask")
+
+
+def check_looks(looks, mask):
+    """Raise BadViews for any value that is no list or tuple of looks through the mask."""
+    if not isinstance(looks, (list, tuple)) or not 1 <= len(looks) <= MOST_LOOKS:
+        raise BadViews(None)
+    for index, told in enumerate(looks):
+        if not is_look(told, mask):
+            raise BadViews(index)
+
+
+def is_number(n, least, most):
+    """Tell whether the value is an integer from least to most."""
+    # In Python True and False are integers, too; in the document they are none.
+    return isinstance(n, int) and not isinstance(n, bool) and least <= n <= most
 
 
 def check_number(n, least, most):
     """Raise BadNumber for any value that is no integer from least to most."""
-    # In Python True and False are integers, too; in the document they are none.
-    if not isinstance(n, int) or isinstance(n, bool) or not least <= n <= most:
+    if not is_number(n, least, most):
         raise BadNumber(n)
+
+
+def check_letters(letters):
+    """Raise BadLetters for any value that is no number of letters."""
+    if not is_number(letters, 1, len(LETTERS)):
+        raise BadLetters("not a number of letters")
+
+
+def check_great(width, many, letters):
+    """Raise TooGreat for a greater width, or more places seen, than small masks have."""
+    if width > SMALL_WIDTH[letters] or many > SMALL_SEEN[letters]:
+        raise TooGreat("too great for so many letters")
+
+
+def check_small(mask, letters):
+    """Raise an error unless there are a mask and letters, and the mask is small for them."""
+    check_mask(mask)
+    check_letters(letters)
+    check_great(len(mask), mask.count("x"), letters)
+
+
+def check_row_in(row, letters):
+    """Raise BadRow for any value that is no row in the first so many letters."""
+    check_row(row)
+    if not made_of(row, LETTERS[:letters]):
+        raise BadRow("a row with other letters")

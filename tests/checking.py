@@ -30,21 +30,29 @@ def assert_bad_number(test, call, arguments, value):
     test.assertEqual(error.n, value)
 
 
-def assert_order(test, call, good, wrong):
+def assert_order(test, call, good, wrong, order=None):
     """Check which error is raised, whichever of the arguments are wrong.
 
-    `wrong` has a pair (value, kind of error) for each argument, and the errors
-    are named in the order of the arguments.
+    `wrong` has a pair (value, kind of error) for each argument, None for one that
+    is left as it is. `order` has the places of the arguments in the order in which
+    their errors are named, if this is not that of the arguments.
     """
-    for chosen in range(1, 2 ** len(good)):
+    order = [at for at in (order or range(len(good))) if wrong[at] is not None]
+    for chosen in range(1, 2 ** len(order)):
         arguments = list(good)
-        first = None
-        for at, (value, kind) in enumerate(wrong):
-            if chosen & (1 << at):
-                arguments[at] = value
-                first = first if first is not None else (value, kind)
-        value, kind = first
+        picked = [wrong[at] for bit, at in enumerate(order) if chosen & (1 << bit)]
+        for bit, at in enumerate(order):
+            if chosen & (1 << bit):
+                arguments[at] = wrong[at][0]
+        value, kind = picked[0]
         if kind is BadNumber:
             assert_bad_number(test, call, arguments, value)
         else:
             assert_raises(test, kind, call, arguments)
+
+
+def assert_field(test, kind, call, arguments, field, value):
+    """Check that a call raises this kind of error, with this value in its field."""
+    error = assert_raises(test, kind, call, arguments)
+    test.assertEqual(vars(error), {field: value}, (call.__name__, arguments))
+    test.assertIs(type(getattr(error, field)), type(value))

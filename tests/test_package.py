@@ -20,6 +20,20 @@ INTERFACE = {
         "find": ["row", "mask", "told"], "near": ["row", "mask", "told", "wrong"],
         "steps_needed": ["row", "mask"],
     },
+    "longest.py": {
+        "longest": ["mask", "letters"], "longest_rows": ["mask", "letters"],
+        "count_rows": ["mask", "letters", "length"], "next_letters": ["row", "mask", "letters"],
+        "farthest": ["row", "mask", "letters"],
+    },
+    "rings.py": {
+        "ring_views": ["row", "mask"], "ring_tells": ["row", "mask"],
+        "longest_ring": ["mask", "letters"], "full_rings": ["mask", "letters"],
+    },
+    "choosing.py": {"best_masks": ["many", "width", "letters"], "least_masks": ["row", "width"]},
+    "joining.py": {
+        "joined": ["mask", "views"], "first_clash": ["mask", "views"],
+        "rows_from": ["mask", "views"], "sure_from": ["mask", "views"],
+    },
 }
 
 
