@@ -18,17 +18,27 @@ def made_of(value, signs):
     return isinstance(value, str) and all([sign in signs for sign in value])
 
 
+def is_mask(value):
+    """Tell whether the value is a mask."""
+    if not made_of(value, "x.") or not 1 <= len(value) <= WIDEST:
+        return False
+    return value[0] == "x" and value[-1] == "x"
+
+
 def check_mask(mask):
     """Raise BadMask for any value that is no mask."""
-    if not made_of(mask, "x.") or not 1 <= len(mask) <= WIDEST:
+    if not is_mask(mask):
         raise BadMask("not a mask")
-    if mask[0] != "x" or mask[-1] != "x":
-        raise BadMask("not a mask")
+
+
+def is_row(value):
+    """Tell whether the value is a row."""
+    return made_of(value, LETTERS) and len(value) <= LONGEST
 
 
 def check_row(row):
     """Raise BadRow for any value that is no row."""
-    if not made_of(row, LETTERS) or len(row) > LONGEST:
+    if not is_row(row):
         raise BadRow("not a row")
 
 
@@ -88,3 +98,10 @@ def check_row_in(row, letters):
     check_row(row)
     if not made_of(row, LETTERS[:letters]):
         raise BadRow("a row with other letters")
+
+
+def check_lettered(row, mask, letters):
+    """Raise an error unless there are a mask, letters and a row in these, in this order."""
+    check_mask(mask)
+    check_letters(letters)
+    check_row_in(row, letters)

@@ -1,7 +1,7 @@
 """The longest rows that a mask tells, and rows made longer."""
 
 from holedwindows.checks import (
-    LETTERS, LONGEST, check_letters, check_mask, check_number, check_row_in, check_small)
+    LETTERS, LONGEST, check_lettered, check_number, check_row_in, check_small)
 from holedwindows.growing import farthest_rows, told_rows
 from holedwindows.masks import seen
 from holedwindows.views import tells, view_at, views
@@ -27,9 +27,7 @@ def count_rows(mask, letters, length):
 
 def next_letters(row, mask, letters):
     """Return the letters that can be put behind the row so that the mask tells it."""
-    check_mask(mask)
-    check_letters(letters)
-    check_row_in(row, letters)
+    check_lettered(row, mask, letters)
     if not tells(row, mask):
         return ""
     signs = LETTERS[:letters]

@@ -4,6 +4,7 @@ from holedwindows.checks import LETTERS, check_row, check_small
 from holedwindows.errors import BadRow
 from holedwindows.growing import told_rows
 from holedwindows.masks import seen
+from holedwindows.views import all_unlike
 from holedwindows.words import words
 
 
@@ -19,8 +20,7 @@ def ring_views(row, mask):
 
 def ring_tells(row, mask):
     """Tell whether the views from all places of the ring are unlike."""
-    found = ring_views(row, mask)
-    return len(set(found)) == len(found)
+    return all_unlike(ring_views(row, mask))
 
 
 def count_views(mask, letters):

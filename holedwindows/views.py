@@ -22,26 +22,40 @@ def views(row, mask):
     return [view_at(row, places, start) for start in range(len(row) - len(mask) + 1)]
 
 
-def tells(row, mask):
-    """Tell whether the views from all places are unlike."""
-    found = views(row, mask)
+def all_unlike(found):
+    """Tell whether no two of these views, or tuples of views, are like."""
     return len(set(found)) == len(found)
 
 
-def groups(row, mask):
-    """Return the tuples of places with the same view, where there are several."""
+def tells(row, mask):
+    """Tell whether the views from all places are unlike."""
+    return all_unlike(views(row, mask))
+
+
+def grouped(pairs):
+    """Return the tuples of places with the same view, of ascending pairs (place, view)."""
     places = {}
-    for place, view in enumerate(views(row, mask)):
+    for place, view in pairs:
         places.setdefault(view, []).append(place)
     # A dict keeps its keys as they came, so the first places ascend.
     return [tuple(same) for same in places.values() if len(same) > 1]
 
 
-def alike(row, mask):
-    """Return the least pair of places with like views, None if there is none."""
-    found = groups(row, mask)
+def least_pair(pairs):
+    """Return the least pair of places with the same view, None if there is none."""
+    found = grouped(pairs)
     # The first group has the least place that is like another one further on.
     return found[0][:2] if found else None
+
+
+def groups(row, mask):
+    """Return the tuples of places with the same view, where there are several."""
+    return grouped(list(enumerate(views(row, mask))))
+
+
+def alike(row, mask):
+    """Return the least pair of places with like views, None if there is none."""
+    return least_pair(list(enumerate(views(row, mask))))
 
 
 def distance(row, mask):

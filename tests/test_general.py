@@ -3,16 +3,21 @@
 import copy
 import unittest
 
+from holedwindows.both import both_alike, both_find, both_views
 from holedwindows.choosing import best_masks, least_masks
-from holedwindows.errors import BadLetters, BadNumber, WindowError
+from holedwindows.errors import BadLetters, BadMask, BadNumber, BadRow, WindowError
 from holedwindows.finding import find, near, steps_needed
 from holedwindows.joining import first_clash, joined, rows_from, sure_from
 from holedwindows.longest import count_rows, farthest, longest, longest_rows, next_letters
 from holedwindows.masks import seen, together
+from holedwindows.mending import mend, weak_letters
 from holedwindows.rings import full_rings, longest_ring, ring_tells, ring_views
+from holedwindows.texts import read, write
+from holedwindows.trackers import Tracker
 from holedwindows.views import alike, distance, groups, stands, tells, views
-from tests.checking import raised
-from tests.values import HUGE, NO_STRINGS
+from tests.checking import assert_raises, raised
+from tests.interface import ARGUMENTS
+from tests.values import HUGE, NO_MASKS, NO_ROWS, NO_STRINGS
 
 # Each function with arguments that it takes, and what it returns for them.
 CALLS = [
@@ -42,18 +47,14 @@ CALLS = [
     (first_clash, ["x.x", ["ab", "ba", "ab"]], 2),
     (rows_from, ["x.x", ["ab", "bb", "ba"]], ["abbab", "abbba", "babba", "bbabb"]),
     (sure_from, ["xx", ["ab", "bb"]], "abb"),
+    (mend, ["ababa", "x.x", 2], (1, "ababb")),
+    (weak_letters, ["abbab", "x.x", 2], [(1, "a"), (2, "a")]),
+    (write, ["x.x", "abba"], "x.x abba"),
+    (read, ["x.x  abba"], ("x.x", "abba")),
+    (both_views, ["aab", "x.x"], [((0, "on"), "ab"), ((2, "back"), "ba")]),
+    (both_alike, ["aba", "x.x"], ((0, "on"), (2, "back"))),
+    (both_find, ["aab", "x.x", "?b"], [(0, "on")]),
 ]
-# The names of the arguments, for those that take others than a row and a mask.
-NAMES = {
-    seen: ["mask"], together: ["one", "other", "far"], near: ["row", "mask", "told", "wrong"],
-    find: ["row", "mask", "told"], stands: ["row", "mask", "wrong", "covered"],
-    longest: ["mask", "letters"], longest_rows: ["mask", "letters"],
-    count_rows: ["mask", "letters", "length"], next_letters: ["row", "mask", "letters"],
-    farthest: ["row", "mask", "letters"], longest_ring: ["mask", "letters"],
-    full_rings: ["mask", "letters"], best_masks: ["many", "width", "letters"],
-    least_masks: ["row", "width"], joined: ["mask", "views"], first_clash: ["mask", "views"],
-    rows_from: ["mask", "views"], sure_from: ["mask", "views"],
-}
 # Each function that takes a number from 0 on, with the places of its numbers.
 FROM_0 = [
     (together, ["x.x", "xx", 1], [2]),
@@ -67,9 +68,24 @@ FROM_1 = [
     (least_masks, ["abbab", 3], [1]),
 ]
 OF_NUMBERS = FROM_0 + FROM_1
+# Each call with the place of an argument for which any value may be passed.
+OF_ANY_VALUE = [
+    (call, arguments, at) for call, arguments, _ in CALLS
+    for at, name in enumerate(ARGUMENTS[call.__name__]) if name != "text"]
+# Each call that takes masks or rows, with the names of its arguments.
+OF_MASKS_AND_ROWS = [
+    (call, arguments, ARGUMENTS[call.__name__]) for call, arguments, _ in CALLS
+] + [(Tracker, ["ababa", "x.x"], ["row", "mask"])]
+# For these the row is passed first, but the mask is named first.
+MASK_NAMED_FIRST = [next_letters, farthest, mend, weak_letters]
 NESTED = [
     [1], [[1]], [[1], [2, [3]]], {"a": [1]}, ([1], {"b": {"c": [2]}}), {(1, 2): [{}]}, [{"a": 1}],
 ]
+
+
+class Calls(unittest.TestCase):
+    def test_each_function_of_the_interface_is_among_them(self):
+        self.assertEqual(sorted(call.__name__ for call, _, _ in CALLS), sorted(ARGUMENTS))
 
 
 class Results(unittest.TestCase):
@@ -87,7 +103,7 @@ class Results(unittest.TestCase):
     def test_arguments_may_be_given_by_their_names(self):
         for call, arguments, told in CALLS:
             with self.subTest(call=call.__name__):
-                keywords = dict(zip(NAMES.get(call, ["row", "mask"]), arguments))
+                keywords = dict(zip(ARGUMENTS[call.__name__], arguments))
                 self.assertEqual(call(**keywords), told)
 
     def test_returned_lists_are_new(self):
@@ -103,7 +119,9 @@ class Results(unittest.TestCase):
     def test_returned_lists_are_new_where_they_are_empty(self):
         for call, arguments in ((views, ["", "x"]), (groups, ["", "x"]), (find, ["", "x", "a"]),
                                 (near, ["", "x", "a", 0]), (full_rings, ["x.x", 2]),
-                                (least_masks, ["", 1]), (rows_from, ["xx", ["ab", "ab"]])):
+                                (least_masks, ["", 1]), (rows_from, ["xx", ["ab", "ab"]]),
+                                (weak_letters, ["", "x", 2]), (both_views, ["", "x"]),
+                                (both_find, ["", "x", "a"])):
             with self.subTest(call=call.__name__):
                 call(*arguments).append("more")
                 self.assertEqual(call(*arguments), [])
@@ -124,26 +142,27 @@ class Results(unittest.TestCase):
 
 class Errors(unittest.TestCase):
     def test_a_call_that_raises_an_error_changes_nothing(self):
-        for call, arguments, told in CALLS:
-            for at in range(len(arguments)):
-                for value in NO_STRINGS + ["", "x.", "abe", 13, -1]:
-                    wrong = list(arguments)
-                    wrong[at] = copy.deepcopy(value)
-                    raised(call, wrong)
-                    self.assertEqual(wrong[at], value)
-                    self.assertIs(type(wrong[at]), type(value))
+        for call, arguments, at in OF_ANY_VALUE:
+            told = call(*arguments)
+            for value in NO_STRINGS + ["", "x.", "abe", 13, -1]:
+                wrong = list(arguments)
+                wrong[at] = copy.deepcopy(value)
+                raised(call, wrong)
+                self.assertEqual(wrong[at], value)
+                self.assertIs(type(wrong[at]), type(value))
             with self.subTest(call=call.__name__):
                 self.assertEqual(call(*arguments), told)
 
     def test_any_value_is_refused_by_an_error_of_the_package(self):
-        for call, arguments, _ in CALLS:
-            for at in range(len(arguments)):
-                for value in NO_STRINGS + NESTED:
-                    if isinstance(arguments[at], int) and value in (0, 1):
-                        continue
-                    wrong = list(arguments)
-                    wrong[at] = value
-                    self.assertIsInstance(raised(call, wrong), WindowError, (call.__name__, at))
+        for call, arguments, at in OF_ANY_VALUE:
+            for value in NO_STRINGS + NESTED:
+                if isinstance(arguments[at], int) and value in (0, 1):
+                    continue
+                wrong = list(arguments)
+                wrong[at] = value
+                error = raised(call, wrong)
+                self.assertIsInstance(error, WindowError, (call.__name__, at))
+                self.assertEqual(type(error).__bases__, (WindowError,))
 
     def test_equal_wrong_calls_raise_equal_errors(self):
         for call, arguments, places in OF_NUMBERS:
@@ -178,6 +197,35 @@ def change_within(value):
         value["more"] = "more"
 
 
+class MasksAndRows(unittest.TestCase):
+    def test_no_mask(self):
+        for call, arguments, names in OF_MASKS_AND_ROWS:
+            for at, name in enumerate(names):
+                if name in ("mask", "one", "other"):
+                    for value in NO_MASKS:
+                        wrong = arguments[:at] + [value] + arguments[at + 1:]
+                        assert_raises(self, BadMask, call, wrong)
+
+    def test_no_row(self):
+        for call, arguments, names in OF_MASKS_AND_ROWS:
+            if "row" in names:
+                at = names.index("row")
+                for value in NO_ROWS:
+                    wrong = arguments[:at] + [value] + arguments[at + 1:]
+                    assert_raises(self, BadRow, call, wrong)
+
+    def test_neither(self):
+        for call, arguments, names in OF_MASKS_AND_ROWS:
+            if "row" in names and "mask" in names:
+                row, mask = names.index("row"), names.index("mask")
+                kind = BadMask if mask < row or call in MASK_NAMED_FIRST else BadRow
+                for no_row in ("abe", "a" * 61, None, [], "x.x"):
+                    for no_mask in ("x.", "", "x" * 13, None, {}, "ab"):
+                        wrong = list(arguments)
+                        wrong[row], wrong[mask] = no_row, no_mask
+                        assert_raises(self, kind, call, wrong)
+
+
 class Integers(unittest.TestCase):
     def test_true_and_false_are_no_integers(self):
         for call, arguments, places in OF_NUMBERS:
@@ -192,11 +240,12 @@ class Integers(unittest.TestCase):
 
     def test_true_and_false_are_no_numbers_of_letters(self):
         for call, arguments, told in CALLS:
-            if "letters" in NAMES.get(call, []):
+            names = ARGUMENTS[call.__name__]
+            if "letters" in names:
                 for value in (True, False):
                     with self.subTest(call=call.__name__, value=value):
                         wrong = list(arguments)
-                        wrong[NAMES[call].index("letters")] = value
+                        wrong[names.index("letters")] = value
                         self.assertIs(type(raised(call, wrong)), BadLetters)
 
     def test_zero_and_one_are_integers(self):

@@ -6,35 +6,11 @@ import os
 import unittest
 
 import holedwindows
+from tests.interface import CLASSES, INTERFACE
 
 FOLDER = os.path.dirname(os.path.abspath(holedwindows.__file__))
 README = os.path.join(os.path.dirname(FOLDER), "README.md")
-INTERFACE = {
-    "masks.py": {"seen": ["mask"], "together": ["one", "other", "far"]},
-    "views.py": {
-        "views": ["row", "mask"], "tells": ["row", "mask"], "alike": ["row", "mask"],
-        "groups": ["row", "mask"], "distance": ["row", "mask"],
-        "stands": ["row", "mask", "wrong", "covered"],
-    },
-    "finding.py": {
-        "find": ["row", "mask", "told"], "near": ["row", "mask", "told", "wrong"],
-        "steps_needed": ["row", "mask"],
-    },
-    "longest.py": {
-        "longest": ["mask", "letters"], "longest_rows": ["mask", "letters"],
-        "count_rows": ["mask", "letters", "length"], "next_letters": ["row", "mask", "letters"],
-        "farthest": ["row", "mask", "letters"],
-    },
-    "rings.py": {
-        "ring_views": ["row", "mask"], "ring_tells": ["row", "mask"],
-        "longest_ring": ["mask", "letters"], "full_rings": ["mask", "letters"],
-    },
-    "choosing.py": {"best_masks": ["many", "width", "letters"], "least_masks": ["row", "width"]},
-    "joining.py": {
-        "joined": ["mask", "views"], "first_clash": ["mask", "views"],
-        "rows_from": ["mask", "views"], "sure_from": ["mask", "views"],
-    },
-}
+
 
 
 def source(name):
@@ -58,6 +34,18 @@ class Interface(unittest.TestCase):
             for function, arguments in functions.items():
                 with self.subTest(file=name, function=function):
                     self.assertEqual(defined.get(function), arguments)
+
+    def test_each_class_defines_its_methods_itself(self):
+        for name, classes in CLASSES.items():
+            defined = {
+                node.name: node for node in ast.parse(source(name)).body if isinstance(node, ast.ClassDef)}
+            for told, methods in classes.items():
+                found = {
+                    node.name: [argument.arg for argument in node.args.args][1:]
+                    for node in defined[told].body if isinstance(node, ast.FunctionDef)}
+                for method, arguments in methods.items():
+                    with self.subTest(file=name, method=method):
+                        self.assertEqual(found.get(method), arguments)
 
 
 class Files(unittest.TestCase):
