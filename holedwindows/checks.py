@@ -1,13 +1,14 @@
 """Checks of arguments, which the modules of the package share."""
 
 from holedwindows.errors import (
-    BadLetters, BadMask, BadNumber, BadRow, BadView, BadViews, TooGreat)
+    BadLetters, BadMask, BadNumber, BadPattern, BadRow, BadSteps, BadView, BadViews, TooGreat)
 
 LETTERS = "abcd"
 UNREAD = "?"
 WIDEST = 12
 LONGEST = 60
 MOST_LOOKS = 60
+FARTHEST_STEP = 12
 # For so many letters: how wide a small mask is at most, and how many places it sees.
 SMALL_WIDTH = {1: 12, 2: 8, 3: 5, 4: 4}
 SMALL_SEEN = {1: 12, 2: 4, 3: 2, 4: 1}
@@ -42,6 +43,19 @@ def check_row(row):
         raise BadRow("not a row")
 
 
+def check_ring(row):
+    """Raise BadRow for any value that is no row of one letter or more."""
+    check_row(row)
+    if not row:
+        raise BadRow("a row without letters")
+
+
+def check_pattern(pattern):
+    """Raise BadPattern for any value that is no pattern."""
+    if not made_of(pattern, LETTERS + UNREAD) or len(pattern) > LONGEST:
+        raise BadPattern("not a pattern")
+
+
 def is_look(told, mask):
     """Tell whether the value is a look through the mask."""
     return made_of(told, LETTERS + UNREAD) and len(told) == mask.count("x")
@@ -66,6 +80,15 @@ def is_number(n, least, most):
     """Tell whether the value is an integer from least to most."""
     # In Python True and False are integers, too; in the document they are none.
     return isinstance(n, int) and not isinstance(n, bool) and least <= n <= most
+
+
+def check_steps(steps, least, most):
+    """Raise BadSteps for any value that is no list or tuple of from least to most steps."""
+    if not isinstance(steps, (list, tuple)) or not least <= len(steps) <= most:
+        raise BadSteps(None)
+    for index, step in enumerate(steps):
+        if not is_number(step, -FARTHEST_STEP, FARTHEST_STEP):
+            raise BadSteps(index)
 
 
 def check_number(n, least, most):

@@ -3,6 +3,7 @@
 from holedwindows.checks import UNREAD, check_looks
 from holedwindows.errors import TooMany
 from holedwindows.masks import seen
+from holedwindows.words import in_common
 
 MOST_IN_ANY_ORDER = 7
 
@@ -76,6 +77,4 @@ def rows_from(mask, views):
 def sure_from(mask, views):
     """Return what the rows in any order have in common, `?` elsewhere; None for no rows."""
     rows = rows_from(mask, views)
-    if not rows:
-        return None
-    return "".join([signs[0] if len(set(signs)) == 1 else UNREAD for signs in zip(*rows)])
+    return in_common(rows, UNREAD) if rows else None

@@ -1,21 +1,22 @@
 """Rings: rows with the first letter behind the last one."""
 
-from holedwindows.checks import LETTERS, check_row, check_small
-from holedwindows.errors import BadRow
+from holedwindows.checks import LETTERS, check_ring, check_small
 from holedwindows.growing import told_rows
 from holedwindows.masks import seen
 from holedwindows.views import all_unlike
 from holedwindows.words import words
 
 
+def ring_view(row, places, start):
+    """Return the letters at these places of a mask laid on at start, round and round."""
+    return "".join([row[(start + place) % len(row)] for place in places])
+
+
 def ring_views(row, mask):
     """Return the list of the views from all places of the ring."""
-    check_row(row)
-    if not row:
-        raise BadRow("a ring has one letter or more")
+    check_ring(row)
     places = seen(mask)
-    many = len(row)
-    return ["".join([row[(start + place) % many] for place in places]) for start in range(many)]
+    return [ring_view(row, places, start) for start in range(len(row))]
 
 
 def ring_tells(row, mask):

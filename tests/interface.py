@@ -32,6 +32,21 @@ INTERFACE = {
         "both_views": ["row", "mask"], "both_alike": ["row", "mask"],
         "both_find": ["row", "mask", "told"],
     },
+    "apart.py": {
+        "longest_apart": ["mask", "letters", "far"], "apart_rows": ["mask", "letters", "far"],
+    },
+    "unread.py": {
+        "fill_counts": ["pattern", "mask", "letters"], "first_filling": ["pattern", "mask", "letters"],
+        "sure_letters": ["pattern", "mask", "letters"],
+    },
+    "moves.py": {
+        "starts_by": ["row", "mask", "looks", "steps"], "steps_tell": ["row", "mask", "steps"],
+        "strided": ["row", "mask", "step"],
+    },
+    "endless.py": {
+        "first_again": ["row", "mask"], "told_to": ["row", "mask"],
+        "view_far": ["row", "mask", "place"],
+    },
 }
 # The methods of each class, with the arguments that stand behind the object itself.
 CLASSES = {

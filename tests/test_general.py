@@ -3,17 +3,22 @@
 import copy
 import unittest
 
+from holedwindows.apart import apart_rows, longest_apart
 from holedwindows.both import both_alike, both_find, both_views
 from holedwindows.choosing import best_masks, least_masks
-from holedwindows.errors import BadLetters, BadMask, BadNumber, BadRow, WindowError
+from holedwindows.endless import first_again, told_to, view_far
+from holedwindows.errors import (
+    BadLetters, BadMask, BadNumber, BadRow, BadSteps, WindowError)
 from holedwindows.finding import find, near, steps_needed
 from holedwindows.joining import first_clash, joined, rows_from, sure_from
 from holedwindows.longest import count_rows, farthest, longest, longest_rows, next_letters
 from holedwindows.masks import seen, together
 from holedwindows.mending import mend, weak_letters
+from holedwindows.moves import starts_by, steps_tell, strided
 from holedwindows.rings import full_rings, longest_ring, ring_tells, ring_views
 from holedwindows.texts import read, write
 from holedwindows.trackers import Tracker
+from holedwindows.unread import fill_counts, first_filling, sure_letters
 from holedwindows.views import alike, distance, groups, stands, tells, views
 from tests.checking import assert_raises, raised
 from tests.interface import ARGUMENTS
@@ -54,6 +59,17 @@ CALLS = [
     (both_views, ["aab", "x.x"], [((0, "on"), "ab"), ((2, "back"), "ba")]),
     (both_alike, ["aba", "x.x"], ((0, "on"), (2, "back"))),
     (both_find, ["aab", "x.x", "?b"], [(0, "on")]),
+    (longest_apart, ["xx", 2, 2], 3),
+    (apart_rows, ["xx", 2, 2], ["aba", "bab"]),
+    (fill_counts, ["a?a", "xx", 2], (1, 2)),
+    (first_filling, ["a?a", "xx", 2], "aba"),
+    (sure_letters, ["a?a", "xx", 2], "aba"),
+    (starts_by, ["abbabb", "x.x", ["ab", "?b"], [2]], [0]),
+    (steps_tell, ["aabab", "x", [2]], True),
+    (strided, ["aabab", "x", 2], 2),
+    (first_again, ["aab", "xx"], (0, 3)),
+    (told_to, ["aab", "xx"], 4),
+    (view_far, ["aab", "x.x", 5], "ba"),
 ]
 # Each function that takes a number from 0 on, with the places of its numbers.
 FROM_0 = [
@@ -61,11 +77,15 @@ FROM_0 = [
     (stands, ["abbab", "x.x", 0, 1], [2, 3]),
     (near, ["abbab", "x.x", "aa", 1], [3]),
     (count_rows, ["x.x", 2, 5], [2]),
+    (view_far, ["aab", "x.x", 5], [2]),
 ]
 # Likewise of numbers from 1 on.
 FROM_1 = [
     (best_masks, [2, 4, 2], [0, 1]),
     (least_masks, ["abbab", 3], [1]),
+    (longest_apart, ["xx", 2, 2], [2]),
+    (apart_rows, ["xx", 2, 2], [2]),
+    (strided, ["aabab", "x", 2], [2]),
 ]
 OF_NUMBERS = FROM_0 + FROM_1
 # Each call with the place of an argument for which any value may be passed.
@@ -121,7 +141,7 @@ class Results(unittest.TestCase):
                                 (near, ["", "x", "a", 0]), (full_rings, ["x.x", 2]),
                                 (least_masks, ["", 1]), (rows_from, ["xx", ["ab", "ab"]]),
                                 (weak_letters, ["", "x", 2]), (both_views, ["", "x"]),
-                                (both_find, ["", "x", "a"])):
+                                (both_find, ["", "x", "a"]), (starts_by, ["", "x", ["a"], []])):
             with self.subTest(call=call.__name__):
                 call(*arguments).append("more")
                 self.assertEqual(call(*arguments), [])
@@ -138,6 +158,26 @@ class Results(unittest.TestCase):
                 passed = copy.deepcopy(arguments)
                 call(*passed)
                 self.assertEqual(passed, arguments)
+
+    def test_later_changes_of_an_argument_have_no_effect(self):
+        for call, arguments, told in CALLS:
+            passed = copy.deepcopy(arguments)
+            first = call(*passed)
+            for argument in passed:
+                if isinstance(argument, list):
+                    with self.subTest(call=call.__name__):
+                        change_within(argument)
+                        argument.clear()
+                        self.assertEqual(first, told)
+                        self.assertEqual(call(*arguments), told)
+
+    def test_tuples_are_the_same_as_lists(self):
+        for call, arguments, told in CALLS:
+            for at, argument in enumerate(arguments):
+                if isinstance(argument, list):
+                    with self.subTest(call=call.__name__, at=at):
+                        passed = arguments[:at] + [tuple(argument)] + arguments[at + 1:]
+                        self.assertEqual(call(*passed), told)
 
 
 class Errors(unittest.TestCase):
@@ -158,6 +198,9 @@ class Errors(unittest.TestCase):
             for value in NO_STRINGS + NESTED:
                 if isinstance(arguments[at], int) and value in (0, 1):
                     continue
+                # Lists of no steps, and of one step, are right ones.
+                if ARGUMENTS[call.__name__][at] == "steps" and value in ([], (), [1]):
+                    continue
                 wrong = list(arguments)
                 wrong[at] = value
                 error = raised(call, wrong)
@@ -167,7 +210,7 @@ class Errors(unittest.TestCase):
     def test_equal_wrong_calls_raise_equal_errors(self):
         for call, arguments, places in OF_NUMBERS:
             wrong = list(arguments)
-            wrong[places[0]] = 61
+            wrong[places[0]] = -1
             first, second = raised(call, wrong), raised(call, wrong)
             self.assertIs(type(first), type(second))
             self.assertEqual(first.n, second.n)
@@ -247,6 +290,15 @@ class Integers(unittest.TestCase):
                         wrong = list(arguments)
                         wrong[names.index("letters")] = value
                         self.assertIs(type(raised(call, wrong)), BadLetters)
+
+    def test_true_and_false_are_no_steps(self):
+        for value in (True, False):
+            for steps in ([value], [0, value], (1, -1, value)):
+                looks = ["a"] * (len(steps) + 1)
+                for error in (raised(steps_tell, ["abab", "x", steps]),
+                              raised(starts_by, ["abab", "x", looks, steps])):
+                    self.assertIs(type(error), BadSteps)
+                    self.assertEqual(error.index, len(steps) - 1)
 
     def test_zero_and_one_are_integers(self):
         for call, arguments, places in OF_NUMBERS:

@@ -8,14 +8,10 @@ from holedwindows.longest import count_rows, farthest, longest, longest_rows, ne
 from holedwindows.masks import seen
 from holedwindows.rings import full_rings, longest_ring, ring_tells, ring_views
 from holedwindows.views import alike, distance, groups, stands, tells, views
-from tests.values import UNLIKE, masks, plain_ring_tells, plain_tells, small_masks, strings
+from tests.values import UNLIKE, many_pairs, masks, plain_ring_tells, plain_tells, small_masks, strings
 
 LONG = "abcd" * 15
-# Pairs of many rows and masks, among them rows of 60 letters and masks of 12 signs.
-PAIRS = (
-    [(row, mask) for row in strings("ab", 7) + strings("abcd", 4)[::2] for mask in masks(5)]
-    + [(UNLIKE[:length], mask) for length in range(0, 61, 5) for mask in masks(7) + ["x" * 12, "x..........x"]]
-    + [(LONG, mask) for mask in masks(5) + ["x" * 12]])
+PAIRS = many_pairs()
 TOLD = [(row, mask) for row, mask in PAIRS if plain_tells(row, mask)]
 SMALL = [(mask, letters) for letters in (1, 2, 3, 4) for mask in small_masks(letters, 6)]
 # Pairs of a longest row and a mask for it.

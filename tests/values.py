@@ -67,6 +67,15 @@ def masks(most):
     return [text for text in strings("x.", most) if text[:1] == "x" and text[-1:] == "x"]
 
 
+def many_pairs():
+    """Return pairs of many rows and masks, with rows of 60 letters and masks of 12 signs."""
+    return (
+        [(row, mask) for row in strings("ab", 7) + strings("abcd", 4)[::2] for mask in masks(5)]
+        + [(UNLIKE[:length], mask) for length in range(0, 61, 5)
+           for mask in masks(7) + ["x" * 12, "x..........x"]]
+        + [("abcd" * 15, mask) for mask in masks(5) + ["x" * 12]])
+
+
 def small_masks(letters, most=12):
     """Return all masks that are small for so many letters, and at most so wide."""
     width, many = GREATEST[letters]
